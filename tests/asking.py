@@ -21,9 +21,20 @@ def step(way):
     return [3, way]
 
 
+def soon(one):
+    return [6, one]
+
+
+def follow(n):
+    return [9, n]
+
+
 RIGHT = step(0)
 LEFT = step(1)
 STANDS = [4]
+OPEN_WISHES = [5]
+FEWEST = [7]
+LEAST = [8]
 
 
 def asked(*calls):
@@ -31,6 +42,8 @@ def asked(*calls):
     handed = [number for call in calls for number in call]
     if not 1 <= len(calls) <= 40 or len(handed) > 120:
         raise ValueError("no such list of calls is ever handed in")
+    if len([call for call in calls if call[0] in (7, 8, 9)]) > 6:
+        raise ValueError("no list with so many fewest, least and follow is ever handed in")
     row = answers(handed)
     taken = []
     place = 0

@@ -1,14 +1,22 @@
 """Answers a row of calls about one table."""
 
+from turningtray.plans import fewest_steps, least_waiting
 from turningtray.wishes import FEWEST_PLACES, MOST_PLACES, MOST_WISHES, TO_THE_LEFT, TO_THE_RIGHT, Table
 
 TABLE = 0
 WISH = 1
 BEHIND = 2
 STEP = 3
+STANDS = 4
+OPEN_WISHES = 5
+SOON = 6
+FEWEST = 7
+LEAST = 8
 
 # By a call's number: how many numbers stand behind it.
-HOW_MANY_GIVEN = (1, 2, 2, 1, 0)
+HOW_MANY_GIVEN = (1, 2, 2, 1, 0, 0, 1, 0, 0, 1)
+
+MOST_FOLLOWED = 100
 
 DONE = 0
 
@@ -74,6 +82,42 @@ def answer_stands(table):
     return [table.turned, len(table.fulfilled), len(unfulfilled)] + unfulfilled
 
 
+def answer_open_wishes(table):
+    """Tell which wishes lack nothing but their dish."""
+    free = [wish for wish in table.unfulfilled() if table.is_free(wish, table.fulfilled)]
+    return [len(free)] + free
+
+
+def answer_soon(table, wish):
+    """Tell how near a wish's dish is to its guest."""
+    if not table.has_wish(wish):
+        return [NO_SUCH_WISH]
+    if table.fulfilled[wish]:
+        return [IS_FULFILLED]
+    return [table.steps_till_served(wish)]
+
+
+def answer_fewest(table):
+    """Tell the fewest steps of a plan, how many plans have so few, and the first of these."""
+    plans = fewest_steps(table)
+    return [len(plans.first), plans.many] + plans.first
+
+
+def answer_least(table):
+    """Tell the least waiting."""
+    return [least_waiting(table)]
+
+
+def answer_follow(table, most):
+    """Make the first steps of the plan that fewest tells."""
+    if most > MOST_FOLLOWED:
+        return [OUT_OF_RANGE]
+    steps = fewest_steps(table).first[:most]
+    for way in steps:
+        table.make_step(way)
+    return [len(steps), len(table.unfulfilled())]
+
+
 def answer(table, number, given):
     """Answer the call of this number."""
     if number == TABLE:
@@ -84,7 +128,17 @@ def answer(table, number, given):
         return answer_behind(table, given[0], given[1])
     if number == STEP:
         return answer_step(table, given[0])
-    return answer_stands(table)
+    if number == STANDS:
+        return answer_stands(table)
+    if number == OPEN_WISHES:
+        return answer_open_wishes(table)
+    if number == SOON:
+        return answer_soon(table, given[0])
+    if number == FEWEST:
+        return answer_fewest(table)
+    if number == LEAST:
+        return answer_least(table)
+    return answer_follow(table, given[0])
 
 
 def answers(calls):

@@ -68,6 +68,11 @@ class Table:
         """Whether the dish stands before the guest when the tray is turned so."""
         return (self.dishes[wish] + turned) % self.places == self.guests[wish]
 
+    def steps_till_served(self, wish):
+        """In how few steps the dish is before the guest, whatever the wish has to be behind."""
+        to_the_right = (self.guests[wish] - self.dishes[wish] - self.turned) % self.places
+        return min(to_the_right, self.places - to_the_right)
+
     def is_free(self, wish, fulfilled):
         """Whether all are fulfilled behind which the wish has to be."""
         return all([fulfilled[other] for other in self.ahead[wish]])
